@@ -1,0 +1,1 @@
+"""Ringbook: rows of bells, and ringing by changes."""
