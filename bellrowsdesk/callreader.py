@@ -1,6 +1,7 @@
 """Goes through a list of calls: which call stands where, with its numbers and its lists."""
 
 # For each call, at the place of its number: its name, how many whole numbers it has, how many lists.
+# The call that opens a book is told by two words, since its own is none of those that are used here.
 SHAPES = (
     ("right", 1, 1),
     ("change", 2, 1),
@@ -16,6 +17,20 @@ SHAPES = (
     ("text", 1, 1),
     ("read", 1, 1),
     ("write", 2, 1),
+    ("ends", 1, 2),
+    ("hunts", 1, 1),
+    ("course", 1, 1),
+    ("stay", 1, 1),
+    ("falses", 2, 1),
+    ("open book", 1, 0),
+    ("block", 0, 1),
+    ("lengths", 2, 0),
+    ("bar", 2, 0),
+    ("begin", 0, 0),
+    ("search", 1, 0),
+    ("touch", 0, 0),
+    ("prove", 0, 1),
+    ("music", 0, 2),
 )
 
 

@@ -2,22 +2,7 @@
 
 import unittest
 
-from tests.callform import REFUSED, ROUNDS, TOP, ask, bits, no_rows_of_16, row, with_list
-
-
-def after(n, m, r):
-    """The row after the change, or None: the pairs are looked for from the front."""
-    changed = list(r)
-    place = 0
-    while place < n:
-        if m & (1 << place):
-            place += 1
-        elif place + 1 < n and not m & (1 << (place + 1)):
-            changed[place], changed[place + 1] = r[place + 1], r[place]
-            place += 2
-        else:
-            return None
-    return changed
+from tests.callform import REFUSED, ROUNDS, TOP, after, ask, bits, no_rows_of_16, row, with_list
 
 
 class Change(unittest.TestCase):

@@ -189,6 +189,16 @@ class Names(unittest.TestCase):
         for name, node in nodes(ast.Attribute):
             self.assertNotIn(node.attr, UNUSED, (name, node.lineno))
 
+    def test_no_name_is_a_method_and_a_value(self):
+        classes = [node for name, node in nodes(ast.ClassDef)]
+        methods = {part.name for node in classes for part in node.body if isinstance(part, ast.FunctionDef)}
+        values = {node.attr for name, node in nodes(ast.Attribute) if isinstance(node.ctx, ast.Store)}
+        self.assertNotEqual(values, set())
+        self.assertEqual(methods & values, set())
+        for value in values:
+            for own in ("", 0, [], {}, set(), b""):
+                self.assertFalse(hasattr(own, value), value)
+
     def test_sets_are_not_kept(self):
         for name, tree in trees():
             within = [part for node in ast.walk(tree) if isinstance(node, ast.Call)

@@ -4,7 +4,7 @@ import random
 import unittest
 
 from tests.callform import (
-    NAMES, REFUSED, TOP, ask, bits, number, with_bytes, with_list,
+    NAMES, REFUSED, TOP, ask, block, changes_of, number, with_bytes, with_list,
 )
 
 ALL_OF_16 = 2 ** 16 - 1
@@ -13,14 +13,6 @@ ALL_OF_16 = 2 ** 16 - 1
 def written_bytes(answer):
     """The bytes of an answer of bytes."""
     return answer[2:2 + answer[1]]
-
-
-def changes_of(n):
-    return [m for m in range(2 ** n) if ask("change", n, m, list(range(16))) != REFUSED]
-
-
-def block(*names):
-    return [bits(name) for name in names]
 
 
 class WriteInOrder(unittest.TestCase):
